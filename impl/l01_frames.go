@@ -1,6 +1,7 @@
 package impl
 
 import (
+	"slices"
 	"strconv"
 	"strings"
 )
@@ -63,6 +64,10 @@ func (table windowTable) all(yield func(Window) bool) {
 			return
 		}
 	}
+}
+
+func (table windowTable) told() Frame {
+	return Frame{Major: table.major, Windows: slices.Collect(table.all)}
 }
 
 func (table windowTable) ownerAt(t int64) int64 {

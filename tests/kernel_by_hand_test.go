@@ -144,7 +144,12 @@ func rolledKernel(d *dice) impl.Kernel {
 			k.Parts = append(k.Parts, p)
 		}
 	}
-	for range d.below(80) {
+	return linkedBy(d, k, d.below(80))
+}
+
+// linkedBy lays channels into k as they are rolled, where they are right.
+func linkedBy(d *dice, k impl.Kernel, tries int64) impl.Kernel {
+	for range tries {
 		c := impl.Chan{From: 1 + d.below(6), FromPort: 1 + d.below(5), To: 1 + d.below(6), ToPort: 1 + d.below(5)}
 		more := k
 		more.Chans = append(more.Chans[:len(k.Chans):len(k.Chans)], c)

@@ -34,6 +34,14 @@ func wantRefused(t *testing.T, k impl.Kernel, what ...any) {
 		if c, ok := impl.Carried(k, id); ok || !same(c, impl.Kernel{}) {
 			t.Error("Carried", what, id, c, ok)
 		}
+		if l := impl.FeedsInto(k, id); len(l) > 0 {
+			t.Error("FeedsInto", what, id, l)
+		}
+	}
+	for _, p := range slices.Concat(k.Parts, emptyParts(1, 2, 3, 4, 5, 6)) {
+		if s, ok := impl.Swapped(k, p); ok || !same(s, impl.Kernel{}) {
+			t.Error("Swapped", what, p, s, ok)
+		}
 	}
 	if s, ok := impl.Stepped(k); ok || !same(s, impl.Kernel{}) {
 		t.Error("Stepped", what, s, ok)
@@ -41,6 +49,9 @@ func wantRefused(t *testing.T, k impl.Kernel, what ...any) {
 	for _, n := range []int64{-1, 0, 1, 2, 200, 201} {
 		if r, ok := impl.Ran(k, n); ok || !same(r, impl.Kernel{}) {
 			t.Error("Ran", what, n, r, ok)
+		}
+		if l, ok := impl.RunnersOf(k, n); ok || len(l) > 0 {
+			t.Error("RunnersOf", what, n, l, ok)
 		}
 	}
 }
@@ -56,6 +67,11 @@ func wantKernel(t *testing.T, want bool, k impl.Kernel, what ...any) {
 	}
 	if r, ok := impl.Ran(k, 0); !ok || !same(r, k) {
 		t.Error("no steps change nothing:", what, kernelText(r), ok)
+	}
+	for _, p := range k.Parts {
+		if s, ok := impl.Swapped(k, p); !ok || !same(s, k) {
+			t.Error("one in its own place changes nothing:", what, p.Id, kernelText(s), ok)
+		}
 	}
 }
 
